@@ -32,6 +32,9 @@ const (
 	faultLong   = 5
 )
 
+// hexDigits write, two of them behind a \, a byte of a text.
+const hexDigits = "0123456789abcdef"
+
 // Token is a piece of a package's text.
 type Token struct {
 	Kind int
@@ -209,9 +212,8 @@ func hexByte(rest string) (byte, bool) {
 	if len(rest) < 2 {
 		return 0, false
 	}
-	const digits = "0123456789abcdef"
-	high := strings.IndexByte(digits, rest[0])
-	low := strings.IndexByte(digits, rest[1])
+	high := strings.IndexByte(hexDigits, rest[0])
+	low := strings.IndexByte(hexDigits, rest[1])
 	if high < 0 || low < 0 {
 		return 0, false
 	}
