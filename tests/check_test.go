@@ -46,6 +46,7 @@ func wantTreeUnfit(t *testing.T, what string, tree impl.Tree, code, at int) {
 	if got := impl.Locals(tree); len(got) != 0 {
 		t.Errorf("Locals(%.90q): %v", what, got)
 	}
+	wantNotFolded(t, what, tree)
 	// Code 1 comes ahead of the others.
 	for place := -1; place <= len(tree.Nodes); place++ {
 		for _, name := range []string{"new", "len", "if", ""} {

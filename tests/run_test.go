@@ -33,6 +33,7 @@ func wantRun(t *testing.T, src, want string) {
 	if got, want := whole(out), whole(secondRun(w, "m")); got != want {
 		t.Errorf("%.300s\ngot  %.300s\nread a second time: %.300s", src, got, want)
 	}
+	checkFoldedRuns(t, w, "m")
 }
 
 // wantPacks runs m beside other packages, given as a name and a text in turn, and asks for all of the Outcome.
@@ -49,6 +50,7 @@ func wantPacks(t *testing.T, want string, files ...string) {
 	if got := whole(secondRun(w, "m")); got != want {
 		t.Errorf("%s\nread a second time: %s\nwant %s", worldText(w), got, want)
 	}
+	checkFoldedRuns(t, w, "m")
 }
 
 func TestRunConstants(t *testing.T) {

@@ -87,6 +87,7 @@ func wantNotValid(t *testing.T, what string, tree impl.Tree) {
 	if printed := impl.Print(tree); impl.ValidTree(tree) || printed != "" {
 		t.Errorf("%s: valid, or printed as %.90q", what, printed)
 	}
+	wantNotFolded(t, what, tree)
 }
 
 func TestTreeConstants(t *testing.T) {

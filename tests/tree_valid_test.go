@@ -86,8 +86,13 @@ func TestValidKids(t *testing.T) {
 			letters += kindLetters[kid : kid+1]
 		}
 		parent.node.Kids = len(kinds)
-		if got, want := impl.ValidTree(fileWith(parent)), forms[k].MatchString(letters); got != want {
+		tree := fileWith(parent)
+		got, want := impl.ValidTree(tree), forms[k].MatchString(letters)
+		if got != want {
 			t.Fatalf("kind %d with kids of the kinds %v: %v", k, kinds, got)
+		}
+		if !want && impl.Fold(tree).Nodes != nil {
+			t.Fatalf("kind %d with kids of the kinds %v is folded", k, kinds)
 		}
 	}
 	for k := impl.NodeNone; k <= impl.NodeFile; k++ {
@@ -118,8 +123,12 @@ func TestValidUses(t *testing.T) {
 	}
 	check := func(p plant, what string, change func(n *impl.Node)) {
 		change(&p.node)
-		if got, want := impl.ValidTree(fileWith(p)), uses[p.node.Kind] == what; got != want {
+		got, want := impl.ValidTree(fileWith(p)), uses[p.node.Kind] == what
+		if got != want {
 			t.Errorf("%+v: %v", p.node, got)
+		}
+		if !want {
+			wantNotFolded(t, "not valid", fileWith(p))
 		}
 	}
 	for k := impl.NodeNone; k <= impl.NodeFile; k++ {
@@ -153,6 +162,9 @@ func TestValidUsesEdges(t *testing.T) {
 		t.Helper()
 		if got := impl.ValidTree(fileWith(p)); got != want {
 			t.Errorf("%+v: %v", p.node, got)
+		}
+		if !want {
+			wantNotFolded(t, "not valid", fileWith(p))
 		}
 	}
 	for n, want := range map[int64]bool{-1 << 63: false, -1: false, 0: true, 1: true, 2: false, 1<<63 - 1: false} {
@@ -289,6 +301,9 @@ func TestLimitsOfKids(t *testing.T) {
 		for _, tree := range []impl.Tree{fileOf(kind(impl.NodeList, many...)), file(texted(impl.NodeLoad, "p", loads...)), fileOf(kind(impl.NodeCall, few...))} {
 			if got := impl.ValidTree(tree); got != (more == 0) {
 				t.Errorf("%d kids more: %v", more, got)
+			}
+			if more > 0 {
+				wantNotFolded(t, "kids more", tree)
 			}
 		}
 	}
