@@ -139,6 +139,7 @@ func wantNoValue(t *testing.T, what string, v impl.Value) {
 	if form := impl.FormValue(v); form != "" {
 		t.Errorf("%s is written: %.90q", what, form)
 	}
+	wantNoTarget(t, what, v)
 	wantEnd := func(call string, got impl.Value, word string) {
 		if word != "type" || len(got.Atoms) != 0 {
 			t.Errorf("%s, given to %s: %s, %q", what, call, brief(got), word)
